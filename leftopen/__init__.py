@@ -1,0 +1,1 @@
+"""Told without giving away: see leftopen.office."""
