@@ -33,6 +33,38 @@ def different(numbers):
     return [len(rising)] + rising
 
 
+def most_frequent(numbers):
+    """The number that stands there most often, of several the lowest."""
+    best = numbers[0]
+    most = 0
+    for number in sorted(set(numbers)):
+        often = numbers.count(number)
+        if often > most:
+            best = number
+            most = often
+    return best
+
+
+def lowest_terms(above, below):
+    """The part that above is of below, shortened; below isn't 0."""
+    # Where above is 0 the greatest that divides both is below itself: so 0 comes out as 0 and 1.
+    divisor = below
+    rest = above
+    while rest > 0:
+        left = divisor % rest
+        divisor = rest
+        rest = left
+    return [above // divisor, below // divisor]
+
+
+def counted(rows):
+    """How many rows there are, then the numbers of each."""
+    together = [len(rows)]
+    for row in rows:
+        together.extend(row)
+    return together
+
+
 def leaves_wide(worlds, p):
     """Whether by these worlds everybody's range is p wide at least."""
     for k in range(len(worlds[0])):
@@ -60,6 +92,9 @@ class Question:
                 return True
             before = person
         return False
+
+    def as_row(self):
+        return [self.what, self.t, len(self.people)] + self.people
 
     def answer_in(self, world):
         had = [world[person - 1] for person in self.people]
@@ -89,14 +124,24 @@ class Office:
         self.p = p
         self.truth = tuple(numbers)
         self.might_be = all_worlds(len(numbers), h)
-        self.told = 0
+        self.told = []
 
     def size(self):
         return len(self.truth)
 
+    def has_person(self, i):
+        return i >= 1 and i <= self.size()
+
+    def might_have(self, i):
+        """What person i has, world by world."""
+        return [world[i - 1] for world in self.might_be]
+
     def would_tell(self, parts):
         # The true answer has no say here: else a refusal would tell something of it.
-        return all([leaves_wide(worlds, self.p) for worlds in parts.values()])
+        for worlds in parts.values():
+            if not leaves_wide(worlds, self.p):
+                return False
+        return True
 
     def found(self, h, p, numbers):
         if len(numbers) < 1 or len(numbers) > MOST_PEOPLE:
@@ -112,11 +157,11 @@ class Office:
         parts = question.parts(self.might_be)
         if not self.would_tell(parts):
             return [GIVES_AWAY]
-        if self.told == MOST_TOLD:
+        if len(self.told) == MOST_TOLD:
             return [ENOUGH_TOLD]
         answer = question.answer_in(self.truth)
         self.might_be = parts[answer]
-        self.told += 1
+        self.told.append(question.as_row() + [answer])
         return [answer, len(self.might_be)]
 
     def would(self, question):
@@ -126,12 +171,42 @@ class Office:
         return [1 if self.would_tell(parts) else 0] + different(list(parts))
 
     def range_of(self, i):
-        if i < 1 or i > self.size():
+        if not self.has_person(i):
             return [WRONG]
-        return different([world[i - 1] for world in self.might_be])
+        return different(self.might_have(i))
 
     def worlds(self):
         return [len(self.might_be)]
+
+    def guess(self, i):
+        if not self.has_person(i):
+            return [WRONG]
+        had = self.might_have(i)
+        number = most_frequent(had)
+        return [number] + lowest_terms(had.count(number), len(had))
+
+    def both(self, i, j):
+        if not self.has_person(i) or not self.has_person(j):
+            return [WRONG]
+        return counted(sorted(set([(world[i - 1], world[j - 1]) for world in self.might_be])))
+
+    def chance(self, question, v):
+        if question.is_wrong(self.size()):
+            return [WRONG]
+        given = [question.answer_in(world) for world in self.might_be]
+        return lowest_terms(given.count(v), len(given))
+
+    def log(self):
+        return counted(self.told)
+
+    def free(self):
+        pairs = []
+        for i in range(1, self.size() + 1):
+            for j in range(i, self.size() + 1):
+                question = Question(TOGETHER, 0, list(range(i, j + 1)))
+                if self.would_tell(question.parts(self.might_be)):
+                    pairs.append((i, j))
+        return counted(pairs)
 
 
 class Reader:
@@ -183,8 +258,35 @@ def call_worlds(office, reader):
     return office.worlds()
 
 
+def call_guess(office, reader):
+    return office.guess(reader.one())
+
+
+def call_both(office, reader):
+    i = reader.one()
+    return office.both(i, reader.one())
+
+
+def call_chance(office, reader):
+    what = reader.one()
+    t = reader.one()
+    v = reader.one()
+    return office.chance(Question(what, t, reader.row()), v)
+
+
+def call_log(office, reader):
+    return office.log()
+
+
+def call_free(office, reader):
+    return office.free()
+
+
 # A call's number is its place here.
-CALLS = (call_found, call_ask, call_would, call_range, call_worlds)
+CALLS = (
+    call_found, call_ask, call_would, call_range, call_worlds,
+    call_guess, call_both, call_chance, call_log, call_free,
+)
 
 
 def answers(calls):

@@ -24,8 +24,28 @@ def range_of(i):
 
 WORLDS = [4]
 
+
+def guess(i):
+    return [5, i]
+
+
+def both(i, j):
+    return [6, i, j]
+
+
+def chance(what, t, v, people):
+    return [7, what, t, v, len(people)] + list(people)
+
+
+LOG = [8]
+FREE = [9]
+
 # Everybody has 0 at least, so this is told in every office and leaves its worlds as they are.
 IDLE = ask(HOW_MANY, 0, [1])
+
+# One of the two has 0 to 2, the other 3 to 5, once how many have 3 at least was told.
+PAIR = [found(5, 2, [1, 4]), ask(HOW_MANY, 3, [1, 2])]
+PAIR_TOLD = [[36], [1, 18]]
 
 
 def line(calls):

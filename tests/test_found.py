@@ -1,6 +1,6 @@
 import unittest
 
-from lines import HOW_MANY, IDLE, TOP, WORLDS, ask, found, range_of, told
+from lines import FREE, HOW_MANY, IDLE, LOG, TOP, WORLDS, ask, both, chance, found, guess, range_of, told
 
 
 class Founding(unittest.TestCase):
@@ -82,7 +82,10 @@ class AfterARefusal(unittest.TestCase):
             found(2, 0, [0]), found(2, 3, [0]), found(2, 1, [0, 3]),
         ]
         before = [found(5, 2, [1, 4]), ask(HOW_MANY, 3, [1, 2])]
-        after = [WORLDS, range_of(1), range_of(2), range_of(3), ask(0, 0, [1, 2]), ask(1, 0, [1, 2])]
+        after = [
+            WORLDS, range_of(1), range_of(2), range_of(3), guess(1), both(1, 2), both(1, 3), chance(0, 0, 5, [1, 2]),
+            LOG, FREE, ask(0, 0, [1, 2]), ask(1, 0, [1, 2]),
+        ]
         undisturbed = told(*before, *after)
         for call in wrong:
             with self.subTest(call=call):

@@ -17,6 +17,11 @@ OUT = (
     ast.YieldFrom, ast.AsyncFunctionDef, ast.Await, ast.NamedExpr, ast.Starred, ast.GeneratorExp, ast.SetComp,
     ast.DictComp, ast.Set, ast.Div, ast.AnnAssign, ast.Is, ast.IsNot,
 )
+METHODS = set(
+    "append clear copy count endswith extend find get index insert isalnum isalpha isdigit islower isspace isupper "
+    "items join keys ljust lower lstrip partition pop remove replace reverse rfind rjust rpartition rsplit rstrip "
+    "setdefault split splitlines startswith strip update upper values zfill bit_length".split()
+)
 WORDS = re.compile(
     r"\b(type|typing|typing_extensions|enum|Enum|IntEnum|StrEnum|Flag|IntFlag|Generic|Protocol|ABC|ABCMeta"
     r"|namedtuple|NamedTuple|TypedDict|TYPE_CHECKING|abstractmethod)\b|dataclass|overload|contextmanager"
@@ -69,3 +74,23 @@ class Language(unittest.TestCase):
             if isinstance(node, ast.FunctionDef) and node.name != "__init__":
                 self.assertNotIn(node.name, BUILT_IN)
                 self.assertFalse(node.name.startswith("_"))
+
+    def test_methods_and_values(self):
+        own = [node for node in nodes() if isinstance(node, ast.ClassDef)]
+        methods = {item.name for node in own for item in node.body if isinstance(item, ast.FunctionDef)}
+        used = [node for node in nodes() if isinstance(node, ast.Attribute)]
+        values = {node.attr for node in used if isinstance(node.ctx, ast.Store)}
+        pythons = {name for kind in (str, int, list, tuple, dict, set, bytes) for name in dir(kind)}
+        self.assertEqual(methods & values, set())
+        self.assertEqual((methods | values) & pythons, {"__init__"})
+        self.assertLessEqual({node.attr for node in used}, methods | values | METHODS)
+
+    def test_sets_are_not_kept(self):
+        inside = [
+            call.args[0] for call in nodes()
+            if isinstance(call, ast.Call) and getattr(call.func, "id", "") in ("sorted", "len") and not call.keywords
+        ]
+        straight = [ast.dump(node) for node in inside]
+        for node in nodes():
+            if isinstance(node, ast.Call) and getattr(node.func, "id", "") == "set":
+                self.assertIn(ast.dump(node), straight)

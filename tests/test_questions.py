@@ -3,13 +3,9 @@
 import unittest
 
 from lines import (
-    GREATEST, HOW_MANY, IDLE, LEAST, TOGETHER, TOP, WORLDS,
-    ask, found, range_of, told, would,
+    GREATEST, HOW_MANY, IDLE, LEAST, PAIR, PAIR_TOLD, TOGETHER, TOP, WORLDS,
+    ask, chance, found, range_of, told, would,
 )
-
-# One of the two has 0 to 2, the other 3 to 5, once how many have 3 at least was told.
-PAIR = [found(5, 2, [1, 4]), ask(HOW_MANY, 3, [1, 2])]
-PAIR_TOLD = [[36], [1, 18]]
 
 
 class FourKinds(unittest.TestCase):
@@ -191,12 +187,14 @@ class WhichRefusal(unittest.TestCase):
 
 
 class Wrong(unittest.TestCase):
-    """What ask and would answer with -1."""
+    """What ask, would and chance answer with -1."""
 
     def check(self, what, t, people, wrong, office=found(1, 1, [0] * 5)):
-        for call in (ask, would):
-            with self.subTest(call=call.__name__, what=what, t=t, people=people):
-                answer = told(office, call(what, t, people))[1]
+        calls = [ask(what, t, people), would(what, t, people)]
+        calls += [chance(what, t, v, people) for v in (0, 1, TOP)]
+        for call in calls:
+            with self.subTest(call=call):
+                answer = told(office, call)[1]
                 if wrong:
                     self.assertEqual(answer, [-1])
                 else:
